@@ -1,0 +1,1 @@
+"""Fonts out of their files: load one, then ask for its glyphs and their metrics."""
