@@ -110,6 +110,72 @@ def tables(datas=None, metrics=2, form=0, units=1000, wanted_cmap=None, widths=N
     }
 
 
+# --- glyphs' data
+
+ON = 1
+OFF = 0
+
+
+def simple(contours, instructions=()):
+    """The data of a glyph of contours of points (x, y, on); each x and y is told in 16 bits."""
+    points = [point for contour in contours for point in contour]
+    ends = [sum(len(contour) for contour in contours[:k + 1]) - 1 for k in range(len(contours))]
+    row = words(len(contours), 0, 0, 0, 0, *ends) + words(len(instructions)) + list(instructions)
+    row += [point[2] for point in points]
+    for axis in (0, 1):
+        before = 0
+        for point in points:
+            assert -32768 <= point[axis] - before <= 32767
+            row += words(point[axis] - before)
+            before = point[axis]
+    return row
+
+
+def told(ends, flags, xs, ys, instructions=()):
+    """The data of a simple glyph out of its pieces; flags, xs and ys are bytes."""
+    row = words(len(ends), 0, 0, 0, 0, *ends) + words(len(instructions)) + list(instructions)
+    return row + list(flags) + list(xs) + list(ys)
+
+
+def part(number, right=0, up=0, factors=(), wide=True, more=0, flags=None):
+    """A part's record; more: other bits of its flags, flags: all of them, whatever follows."""
+    if flags is None:
+        flags = 2 | (1 if wide else 0) | {0: 0, 1: 8, 2: 64, 4: 128}[len(factors)] | more
+    offsets = words(right, up) if wide else [right % 256, up % 256]
+    return words(flags, number) + offsets + words(*factors)
+
+
+def composed(*parts):
+    """The data of a glyph of parts; each but the last gets the flag that another follows."""
+    row = words(-1, 0, 0, 0, 0)
+    for k, record in enumerate(parts):
+        follows = 32 if k < len(parts) - 1 else 0
+        row += [record[0], record[1] | follows] + record[2:]
+    return row
+
+
+def rectangle(left, low, right, high):
+    """A contour that goes round to the left."""
+    return [(left, low, ON), (right, low, ON), (right, high, ON), (left, high, ON)]
+
+
+def turned_about(contour):
+    return list(reversed(contour))
+
+
+FIRST_CHARACTER = 0x41
+
+
+def shapes(datas, units=1000, advances=None):
+    """The file of a font of glyphs' data; the characters from FIRST_CHARACTER on are its glyphs from 0 on."""
+    if advances is None:
+        advances = [10 * k for k in range(len(datas))]
+    widths = [number for advance in advances for number in words(advance, 0)]
+    stretches = [(FIRST_CHARACTER, FIRST_CHARACTER + len(datas) - 1, -FIRST_CHARACTER, 0), LAST_STRETCH]
+    parts = tables(datas, len(datas), 1, units, cmap(character_table(stretches)), widths)
+    return file_of(parts)
+
+
 # --- files
 
 def file_of(parts, order=None, sums=0):
@@ -208,3 +274,24 @@ def glyphs_of(file, characters):
         assert all(len(part) == 1 for part in parts)
         found += [part[0] for part in parts[1:]]
     return found
+
+
+ENOUGH = 2147483647
+
+
+def outlines_of(datas, *numbers):
+    """What outline answers for each of the glyphs, with no bound that counts."""
+    return run(load(shapes(datas)), *[outline(number, ENOUGH) for number in numbers])[1:]
+
+
+def outline_of(data):
+    """What outline answers for a glyph of a font of its own."""
+    return outlines_of([data], 0)[0]
+
+
+def outline_answer(contours):
+    """What outline has to answer for contours of points (x, y, on)."""
+    numbers = []
+    for contour in contours:
+        numbers += [len(contour)] + [number for point in contour for number in point]
+    return [len(numbers)] + numbers

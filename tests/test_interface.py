@@ -29,7 +29,55 @@ class Unchanging(list):
     __setitem__ = __delitem__ = __iadd__ = __imul__ = refuse
 
 
+SHAPES = fm.shapes([
+    fm.simple([fm.rectangle(0, 0, 2, 1)]),
+    fm.simple([[(0, 0, 1), (1, 0, 1), (1, 1, 0)]]),
+    fm.composed(fm.part(0), fm.part(1, 1, 1)),
+    [0],
+], 16, [2, 1, 3, 4])
+
+# All seven calls, good ones and refused ones, with what they answer.
+ALL_CALLS = [
+    (fm.outline(0, 99), [-9]),
+    (fm.draw(0, 16, 1, 1, 0, 1), [-9]),
+    (fm.text([0x41], 16, 1, 1, 0, 1), [-9]),
+    (fm.load(SHAPES), [4]),
+    (fm.glyph(0x42), [1]),
+    (fm.metrics(2), [16, 3, 0, 0, 0, 0, 0]),
+    (fm.outline(1, 10), [10, 3, 0, 0, 1, 1, 0, 1, 1, 1, 0]),
+    (fm.outline(1, 9), [-7]),
+    (fm.outline(3, 9), [-1]),
+    (fm.outline(4, 9), [-8]),
+    (fm.draw(0, 16, 3, 2, 0, 1), [2, 16, 16, 0, 0, 0, 0]),
+    (fm.draw(0, 16, 0, 2, 0, 1), [-8]),
+    (fm.draw(3, 16, 1, 2, 0, 1), [-1]),
+    (fm.text([0x41, 0x41], 8, 3, 1, 0, 1), [4, 8, 8, 0]),
+    (fm.text([], 8, 3, 1, 0, 1), [0, 0, 0, 0]),
+    (fm.text([0x44], 8, 3, 1, 0, 1), [-1]),
+    (fm.text([0x44], 8, 3, 1, 0, 4097), [-8]),
+    (fm.draw(0, 16, 3, 1, -1, 1), [2, 16, 0, 0]),
+    (fm.load(fm.font_without("loca")), [-3]),
+    (fm.draw(0, 16, 3, 1, -1, 1), [-9]),
+    (fm.load(SHAPES), [4]),
+    (fm.text([0x41], 16, 2, 1, 0, 1), [2, 16, 16]),
+    (fm.begin(), [0]),
+    (fm.text([0x41], 16, 2, 1, 0, 1), [-9]),
+]
+
+
 class WhatIsGivenBack(unittest.TestCase):
+    def test_all_seven_calls_in_one_list(self):
+        given = fm.run(*[call for call, answer in ALL_CALLS])
+        self.assertEqual(given, [answer for call, answer in ALL_CALLS])
+
+    def test_counts_and_answers_of_all_seven(self):
+        row = [number for call, answer in ALL_CALLS for number in call]
+        expected = []
+        for call, answer in ALL_CALLS:
+            expected += [len(answer)] + answer
+        self.assertEqual(answers(row), expected)
+        self.assertEqual({type(number) for number in answers(row)}, {int})
+
     def test_the_count_ahead_of_each_answer(self):
         calls = fm.begin() + fm.load(fm.font()) + fm.glyph(0x43) + fm.metrics(0) + fm.metrics(9) + fm.begin() + fm.glyph(0)
         expected = [1, 0, 1, 4, 1, 2, 7, 1000, 500, 501, -3, -4, 500, 700, 1, -8, 1, 0, 1, -9]
@@ -72,6 +120,8 @@ class CallsBehindOneAnother(unittest.TestCase):
     def test_calls_behind_outline_draw_and_text_with_a_font(self):
         for call in OTHER_CALLS:
             given = fm.run(fm.load(fm.font()), call, fm.glyph(0x43), call, fm.metrics(3))
+            self.assertEqual(given[1], given[3])
+            self.assertTrue(len(given[1]) >= 1)
             self.assertEqual(given[2], [2])
             self.assertEqual(given[4], [1000, 502, -2, 1, 2, 3, 4])
 
@@ -85,7 +135,10 @@ class WhatIsHandedIn(unittest.TestCase):
         row = fm.glyph(1) + fm.load(fm.font()) + fm.glyph(0x42) + fm.metrics(0) + fm.metrics(-7)
         for call in OTHER_CALLS:
             row += call
-        return row + fm.load(fm.font_without("loca")) + fm.begin()
+        row += fm.load(SHAPES)
+        for call in OTHER_CALLS:
+            row += call
+        return row + [number for call, answer in ALL_CALLS for number in call]
 
     def test_it_is_as_it_was(self):
         row = self.calls()
@@ -108,9 +161,13 @@ class NothingIsKept(unittest.TestCase):
         self.assertEqual(answers(fm.load(fm.font())), [1, 4])
         self.assertEqual(answers(fm.metrics(0)), [1, -9])
         self.assertEqual(answers(fm.glyph(0x42)), [1, -9])
+        self.assertEqual(answers(fm.outline(0, 99)), [1, -9])
+        self.assertEqual(answers(fm.draw(0, 16, 1, 1, 0, 1)), [1, -9])
+        self.assertEqual(answers(fm.text([], 16, 1, 1, 0, 1)), [1, -9])
 
     def test_the_same_each_time(self):
         row = fm.load(fm.font()) + fm.glyph(0x42) + fm.metrics(0)
+        row += fm.load(SHAPES) + fm.draw(2, 16, 4, 4, 0, 3) + fm.text([0x41, 0x43], 16, 4, 4, 0, 3) + fm.outline(2, 99)
         first = answers(row)
         other = fm.file_of(fm.tables([[]], 1, units=77))
         self.assertEqual(answers(fm.load(other) + fm.metrics(0))[:4], [1, 1, 7, 77])
@@ -118,7 +175,7 @@ class NothingIsKept(unittest.TestCase):
 
     def test_nothing_is_printed(self):
         with contextlib.redirect_stdout(io.StringIO()) as out, contextlib.redirect_stderr(io.StringIO()) as err:
-            fm.run(fm.load(fm.font()), fm.metrics(0), fm.load([]), fm.glyph(1))
+            fm.run(*[call for call, answer in ALL_CALLS])
         self.assertEqual(out.getvalue() + err.getvalue(), "")
 
 

@@ -366,6 +366,14 @@ class AnyBytes(unittest.TestCase):
                 for byte in (0, 1, 2, 127, 128, 255, (file[at] + 1) % 256, (file[at] - 1) % 256):
                     self.check(fm.put(file, at, [byte]))
 
+    def test_more_bytes_than_load_takes(self):
+        # More than the interface hands in; the words say -8, and nothing changes.
+        file = fm.font()
+        for size, answer in ((524288, 4), (524289, -8)):
+            longer = file + [0] * (size - len(file))
+            given = fm.parted(fm.answers(fm.load(file) + fm.load(longer) + fm.metrics(1)))
+            self.assertEqual(given, [[4], [answer], [1000, 502, 503, 0, 0, 0, 0]])
+
     def test_the_longest_font(self):
         file = fm.font()
         self.assertEqual(fm.loaded(file + [0] * (29900 - len(file))), 4)
