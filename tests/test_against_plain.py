@@ -133,6 +133,41 @@ class AgainstPlain(unittest.TestCase):
                 given = fm.run(fm.load(fm.shapes([fm.simple(contours)], 128)), fm.draw(0, *measures))[1]
                 self.assertEqual(given[1:], plain_picture([(contours, 0)], 128, *measures))
 
+    def check_pictures(self, shapes, units, measures):
+        """Several glyphs of one contour each, in one font."""
+        datas = [fm.simple([contour]) for contour in shapes]
+        given = fm.run(fm.load(fm.shapes(datas, units)), *[fm.draw(k, *measures) for k in range(len(shapes))])[1:]
+        for contour, answer in zip(shapes, given):
+            self.assertEqual(answer[1:], plain_picture([([contour], 0)], units, *measures), (contour, measures))
+
+    def test_triangles_around_a_pixel(self):
+        # In eighths of a pixel: many of their lines go through samples, the outermost too.
+        chance = random.Random(9)
+        for k in range(30):
+            shapes = [[(chance.randint(-3, 11), chance.randint(-3, 11), 1) for n in range(3)] for m in range(60)]
+            self.check_pictures(shapes, 128, (16, 1, 1, 0, 1))
+
+    def test_lines_that_cross_a_corner_of_the_picture(self):
+        # In halves of a pixel: long lines, flat and steep ones, that leave the picture at its sides.
+        chance = random.Random(10)
+        for k in range(12):
+            w = chance.randint(1, 8)
+            h = chance.randint(1, 8)
+            shapes = [[(chance.randint(-90, 90), chance.randint(-30, 30), 1) for n in range(3)] for m in range(20)]
+            shapes += [[(chance.randint(-30, 30), chance.randint(-90, 90), 1) for n in range(3)] for m in range(20)]
+            self.check_pictures(shapes, 32, (16, w, h, chance.randint(-4, 12), chance.randint(-4, 12)))
+
+    def test_curves_at_the_smallest_size(self):
+        # A pixel has 16 units, the places on a curve their 64ths: crossings differ least from samples here.
+        chance = random.Random(11)
+        for k in range(20):
+            shapes = [[(chance.randint(-9, 40), chance.randint(-9, 40), n % 2) for n in range(4)] for m in range(20)]
+            self.check_pictures(shapes, 16, (1, 2, 2, 0, 2))
+        # Lines that cross less than a 128th of a unit right of the first sample.
+        shapes = [[(4, 29, 0), (4, 3, 1), (0, 22, 0)], [(22, 34, 0), (-4, -2, 1), (32, 7, 0)],
+                  [(21, 1, 0), (-4, 31, 1), (24, 8, 0)], [(-5, 15, 0), (1, -5, 1), (1, 37, 0), (24, 38, 1)]]
+        self.check_pictures(shapes, 16, (1, 2, 2, 0, 2))
+
     def test_a_glyph_over_itself_many_times(self):
         chance = random.Random(8)
         for k in range(4):

@@ -64,6 +64,8 @@ class Factors(unittest.TestCase):
         self.check((ONE, -ONE), 1, 0, 0, -1)
         self.check((-2 * ONE, ONE), -2, 0, 0, 1)
         self.check((0, ONE), 0, 0, 0, 1)
+        self.assertEqual(moved([(16000, -16000)], 0, 0, (ONE, HALF)), [(16000, -8000)])
+        self.assertEqual(moved([(-16000, 16000)], 0, 0, (HALF, ONE)), [(-8000, 16000)])
 
     def test_four(self):
         self.check((ONE, 0, 0, ONE), 1, 0, 0, 1)
@@ -276,12 +278,13 @@ class Depth(unittest.TestCase):
             self.assertEqual(given, REFUSED, parts)
 
     def test_the_same_part_on_several_levels(self):
-        # Glyph 3 is four deep, 6 seven and 7 eight; both have 3 in them.
-        datas = self.chain(fm.simple([points((0, 0))]), 3)
-        datas += [fm.composed(fm.part(3)), fm.composed(fm.part(4)), fm.composed(fm.part(5)), fm.composed(fm.part(6))]
-        for first, second, good in ((3, 6, True), (6, 3, True), (3, 7, False), (7, 3, False)):
-            given = fm.outlines_of(datas + [fm.composed(fm.part(first), fm.part(second))], 8)[0]
-            self.assertEqual(given == REFUSED, not good, (first, second))
+        # Glyph 6 is seven deep and 7 eight; they have all those before in them.
+        for leaf in (fm.simple([points((0, 0))]), [], fm.words(0, 0, 0, 0, 0)):
+            datas = self.chain(leaf, 7)
+            for part in range(8):
+                for first, second, good in ((part, 6, part < 7), (6, part, part < 7), (part, 7, False), (7, part, False)):
+                    given = fm.outlines_of(datas + [fm.composed(fm.part(first), fm.part(second))], 8)[0]
+                    self.assertEqual(given != REFUSED, good, (first, second))
 
     def test_a_glyph_that_is_its_own_part(self):
         one = fm.simple([points((1, 2))])
